@@ -140,12 +140,39 @@ func repeated(b Braid, times int64) Braid {
 	return Braid{Strands: b.Strands, Letters: letters}
 }
 
+func inverted(b Braid) Braid {
+	return backwards(changed(b, b.Strands, letter.inverse))
+}
+
+// powered returns the power with k factors, however many letters it has.
+func powered(b Braid, k int64) Braid {
+	if k < 0 {
+		return repeated(inverted(b), -k)
+	}
+	return repeated(b, k)
+}
+
+// braidsCode returns the code for arguments that have to be braids of equally many strands.
+func braidsCode(list ...Braid) int64 {
+	for _, b := range list {
+		if !IsBraid(b) {
+			return ErrInvalid
+		}
+	}
+	for _, b := range list {
+		if b.Strands != list[0].Strands {
+			return ErrRange
+		}
+	}
+	return ErrNone
+}
+
 // InverseOf returns the inverse, and ErrNone.
 func InverseOf(b Braid) (Braid, int64) {
 	if !IsBraid(b) {
 		return Braid{}, ErrInvalid
 	}
-	return backwards(changed(b, b.Strands, letter.inverse)), ErrNone
+	return inverted(b), ErrNone
 }
 
 // MirrorOf returns the mirror image, and ErrNone.
@@ -188,11 +215,8 @@ func ShiftOf(b Braid, k int64) (Braid, int64) {
 
 // ProductOf returns the product, and ErrNone.
 func ProductOf(a Braid, b Braid) (Braid, int64) {
-	if !IsBraid(a) || !IsBraid(b) {
-		return Braid{}, ErrInvalid
-	}
-	if a.Strands != b.Strands {
-		return Braid{}, ErrRange
+	if code := braidsCode(a, b); code != ErrNone {
+		return Braid{}, code
 	}
 	if len(a.Letters)+len(b.Letters) > MaxLetters {
 		return Braid{}, ErrLimit
@@ -210,15 +234,10 @@ func PowerOf(b Braid, k int64) (Braid, int64) {
 	if k < -maxExponent || k > maxExponent {
 		return Braid{}, ErrRange
 	}
-	factor := b
-	if k < 0 {
-		factor = backwards(changed(b, b.Strands, letter.inverse))
-		k = -k
-	}
-	if k*int64(len(factor.Letters)) > MaxLetters {
+	if max(k, -k)*int64(len(b.Letters)) > MaxLetters {
 		return Braid{}, ErrLimit
 	}
-	return repeated(factor, k), ErrNone
+	return powered(b, k), ErrNone
 }
 
 // FreeForm returns the free form, and ErrNone.

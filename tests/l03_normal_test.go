@@ -168,26 +168,31 @@ func plainRightWord(a impl.Normal) []int64 {
 	return slices.Concat(plainFactorsWord(a), plainHalfWord(a.Strands, a.Power))
 }
 
+// plainImage returns what the letters make of a generator of a free group.
+func plainImage(letters []int64, generator int64) []int64 {
+	image := []int64{generator}
+	for _, x := range letters {
+		var next []int64
+		for _, g := range image {
+			for _, put := range plainLetterAction(x, g) {
+				if last := len(next) - 1; last >= 0 && next[last] == -put {
+					next = next[:last]
+				} else {
+					next = append(next, put)
+				}
+			}
+		}
+		image = next
+	}
+	return image
+}
+
 // plainAction returns what the letters make of the generators of a free group, as a text. Two
 // words are the same braid exactly if these texts are equal.
 func plainAction(letters []int64, n int64) string {
 	var text []byte
 	for generator := int64(1); generator <= n; generator++ {
-		image := []int64{generator}
-		for _, x := range letters {
-			var next []int64
-			for _, g := range image {
-				for _, put := range plainLetterAction(x, g) {
-					if last := len(next) - 1; last >= 0 && next[last] == -put {
-						next = next[:last]
-					} else {
-						next = append(next, put)
-					}
-				}
-			}
-			image = next
-		}
-		for _, g := range image {
+		for _, g := range plainImage(letters, generator) {
 			text = strconv.AppendInt(append(text, ' '), g, 10)
 		}
 		text = append(text, ';')
@@ -668,6 +673,7 @@ func TestMultiplyNormals(t *testing.T) {
 	checkNoNormal(t, "MultiplyNormals with other strands, nothing", got, code, impl.ErrRange)
 }
 
+// Promise 13, the first part.
 func TestProductsOfNormalFormsAreThoseOfTheWords(t *testing.T) {
 	list := randomBraids(100)
 	for at, a := range list {

@@ -1,6 +1,8 @@
 package impl
 
 import (
+	"iter"
+	"slices"
 	"strconv"
 	"strings"
 )
@@ -144,6 +146,21 @@ func inverted(b Braid) Braid {
 	return backwards(changed(b, b.Strands, letter.inverse))
 }
 
+// withoutPairs returns some numbers in order, but for pairs of a number and its negative next to each
+// other, which are taken away as long as there are any.
+func withoutPairs(numbers iter.Seq[int64]) []int64 {
+	var kept []int64
+	for x := range numbers {
+		last := len(kept) - 1
+		if last >= 0 && kept[last] == -x {
+			kept = kept[:last]
+		} else {
+			kept = append(kept, x)
+		}
+	}
+	return kept
+}
+
 // powered returns the power with k factors, however many letters it has.
 func powered(b Braid, k int64) Braid {
 	if k < 0 {
@@ -245,16 +262,7 @@ func FreeForm(b Braid) (Braid, int64) {
 	if !IsBraid(b) {
 		return Braid{}, ErrInvalid
 	}
-	kept := make([]int64, 0, len(b.Letters))
-	for _, x := range b.Letters {
-		last := len(kept) - 1
-		if last >= 0 && letter(kept[last]) == letter(x).inverse() {
-			kept = kept[:last]
-		} else {
-			kept = append(kept, x)
-		}
-	}
-	return Braid{Strands: b.Strands, Letters: kept}, ErrNone
+	return Braid{Strands: b.Strands, Letters: withoutPairs(slices.Values(b.Letters))}, ErrNone
 }
 
 // EndsOf returns for each strand the place where it ends, and ErrNone.

@@ -168,21 +168,26 @@ func plainRightWord(a impl.Normal) []int64 {
 	return slices.Concat(plainFactorsWord(a), plainHalfWord(a.Strands, a.Power))
 }
 
+// plainActedOnce returns what a letter makes of a free word.
+func plainActedOnce(x int64, word []int64) []int64 {
+	var next []int64
+	for _, g := range word {
+		for _, put := range plainLetterAction(x, g) {
+			if last := len(next) - 1; last >= 0 && next[last] == -put {
+				next = next[:last]
+			} else {
+				next = append(next, put)
+			}
+		}
+	}
+	return next
+}
+
 // plainImage returns what the letters make of a generator of a free group.
 func plainImage(letters []int64, generator int64) []int64 {
 	image := []int64{generator}
 	for _, x := range letters {
-		var next []int64
-		for _, g := range image {
-			for _, put := range plainLetterAction(x, g) {
-				if last := len(next) - 1; last >= 0 && next[last] == -put {
-					next = next[:last]
-				} else {
-					next = append(next, put)
-				}
-			}
-		}
-		image = next
+		image = plainActedOnce(x, image)
 	}
 	return image
 }

@@ -846,7 +846,7 @@ func guardedRows(a [][]int64) ([][]int64, func() bool) {
 	kept := slices.Clone(all)
 	return all[:len(a)], func() bool {
 		for at, list := range all {
-			if &list[0] != &kept[at][0] || len(list) != len(kept[at]) {
+			if &list[:1][0] != &kept[at][:1][0] || len(list) != len(kept[at]) {
 				return false
 			}
 		}
